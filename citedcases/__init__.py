@@ -1,1 +1,1 @@
-"""Cases cited: which decisions of a land's courts stand, and which bind a court."""
+"""Cases cited: which decisions of a land's courts stand, which bind a court, and what they force on a case."""

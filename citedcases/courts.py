@@ -1,4 +1,4 @@
-"""A land's courts and their decisions: what stands on a day, and what binds a court.
+"""A land's courts and their decisions: what stands on a day, what binds a court, and what that forces on a case.
 
 From outside, answers(calls) alone is used; each answer_.. below answers one sort of call.
 """
@@ -14,6 +14,7 @@ NO_SUCH = -2
 TOO_EARLY = -4
 NO_ROOM = -5
 NOT_TO_OVERRULE = -6
+NOTHING_FREES = -6
 
 
 class Land:
@@ -54,6 +55,10 @@ def all_among(some, others):
 
 def is_court(land, court):
     return court < len(land.uppers)
+
+
+def is_decision(land, number):
+    return number < len(land.decisions)
 
 
 def are_findings(land, findings):
@@ -125,6 +130,54 @@ def taken_away_by(land, decision):
     return taken
 
 
+def missing_of_reason(decision, findings):
+    return [kind for kind in decision.reason if kind not in findings]
+
+
+def new_against(land, decision, findings):
+    """Of the findings those that speak for the other side and weren't found in the decision."""
+    return [kind for kind in findings if land.sides[kind] != decision.side and kind not in decision.findings]
+
+
+def forces(land, decision, findings):
+    if len(missing_of_reason(decision, findings)) > 0:
+        return False
+    return len(new_against(land, decision, findings)) == 0
+
+
+def forcing(land, numbers, findings):
+    """Of the decisions with these numbers those that force their side on a case."""
+    return [k for k in numbers if forces(land, land.decisions[k], findings)]
+
+
+def is_any_forcing(land, numbers, findings):
+    for k in numbers:
+        if forces(land, land.decisions[k], findings):
+            return True
+    return False
+
+
+def each_one_longer(lists, kinds):
+    """Rising lists out of rising ones, each with one kind more; they come in order, if those handed in do."""
+    longer = []
+    for some in lists:
+        for kind in kinds:
+            if len(some) == 0 or kind > some[-1]:
+                longer.append(some + [kind])
+    return longer
+
+
+def fewest_that_free(land, numbers, findings, spare):
+    """The first of the shortest lists of spare findings with which none of these decisions forces; or None."""
+    tried = [[]]
+    while len(tried) > 0:
+        for more in tried:
+            if not is_any_forcing(land, numbers, findings + more):
+                return more
+        tried = each_one_longer(tried, spare)
+    return None
+
+
 def is_well_told(land, decision):
     if not are_findings(land, decision.findings):
         return False
@@ -138,7 +191,7 @@ def is_too_early(land, decision):
 
 
 def may_be_overruled(land, decision, number):
-    if number >= len(land.decisions):
+    if not is_decision(land, number):
         return False
     earlier = land.decisions[number]
     if not stands_on(land, earlier, decision.day):
@@ -206,7 +259,7 @@ def answer_decide(land, numbers):
 
 
 def answer_stands(land, numbers):
-    if numbers[0] >= len(land.decisions):
+    if not is_decision(land, numbers[0]):
         return [NO_SUCH]
     decision = land.decisions[numbers[0]]
     return [1 if stands_on(land, decision, numbers[1]) else 0]
@@ -219,8 +272,84 @@ def answer_binds(land, numbers):
     return [len(bound_by)] + bound_by
 
 
+def answer_forced(land, numbers):
+    findings = numbers[2:]
+    if not is_court(land, numbers[0]):
+        return [NO_SUCH]
+    if not are_findings(land, findings):
+        return [WRONGLY_TOLD]
+    bound_by = forcing(land, binding(land, numbers[0], numbers[1]), findings)
+    if len(bound_by) == 0:
+        return [0]
+    # No court is bound both ways: the first one's side is the side of all.
+    first = land.decisions[bound_by[0]]
+    return [1 if first.side == 1 else 2] + bound_by
+
+
+def answer_distinguish(land, numbers):
+    findings = numbers[1:]
+    if not is_decision(land, numbers[0]):
+        return [NO_SUCH]
+    if not are_findings(land, findings):
+        return [WRONGLY_TOLD]
+    decision = land.decisions[numbers[0]]
+    missing = missing_of_reason(decision, findings)
+    if len(missing) > 0:
+        return [0] + missing
+    against = new_against(land, decision, findings)
+    if len(against) > 0:
+        return [1] + against
+    return [2]
+
+
+def answer_may(land, numbers):
+    findings_end = 4 + numbers[3]
+    thought_of = Decision(numbers[0], numbers[1], numbers[2], numbers[4:findings_end], numbers[findings_end:], [])
+    if not is_court(land, thought_of.court):
+        return [NO_SUCH]
+    if not are_findings(land, thought_of.findings):
+        return [WRONGLY_TOLD]
+    if not is_reason(land, thought_of.reason, thought_of.findings, thought_of.side):
+        return [WRONGLY_TOLD]
+    bound_by = binding(land, thought_of.court, thought_of.day)
+    against = [k for k in bound_by if gainsay(land.decisions[k], thought_of)]
+    if len(against) > 0:
+        return [0] + against
+    return [1]
+
+
+def answer_free(land, numbers):
+    side = numbers[2]
+    findings = numbers[3:]
+    if not is_court(land, numbers[0]):
+        return [NO_SUCH]
+    if not are_findings(land, findings):
+        return [WRONGLY_TOLD]
+    bound_by = [k for k in binding(land, numbers[0], numbers[1]) if land.decisions[k].side == side]
+    spare = [kind for kind in range(len(land.sides)) if land.sides[kind] != side and kind not in findings]
+    more = fewest_that_free(land, bound_by, findings, spare)
+    if more is None:
+        return [NOTHING_FREES]
+    return [len(more)] + more
+
+
+def answer_life(land, numbers):
+    if not is_decision(land, numbers[0]):
+        return [NO_SUCH]
+    decision = land.decisions[numbers[0]]
+    if decision.barred:
+        return [0]
+    if decision.taker is None:
+        return [1, decision.day]
+    taker = land.decisions[decision.taker]
+    return [2, decision.day, taker.day, decision.taker]
+
+
 # In the order of the calls' numbers.
-ANSWERERS = (answer_begins, answer_court, answer_decide, answer_stands, answer_binds)
+ANSWERERS = (
+    answer_begins, answer_court, answer_decide, answer_stands, answer_binds,
+    answer_forced, answer_distinguish, answer_may, answer_free, answer_life,
+)
 
 
 def answers(calls):

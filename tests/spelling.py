@@ -26,6 +26,27 @@ def binds(of, day):
     return [4, 2, of, day, 0]
 
 
+def forced(of, day, findings=()):
+    return [5, 2 + len(findings), of, day, *findings, 0]
+
+
+def distinguish(decision, findings=()):
+    return [6, 1 + len(findings), decision, *findings, 0]
+
+
+def may(of, day, side, findings=(), reason=()):
+    rest = [len(findings), *findings, *reason]
+    return [7, 3 + len(rest), of, day, side, *rest, 0]
+
+
+def free(of, day, side, findings=()):
+    return [8, 3 + len(findings), of, day, side, *findings, 0]
+
+
+def life(decision):
+    return [9, 1, decision, 0]
+
+
 def spelled(calls):
     return [number for call in calls for number in call]
 

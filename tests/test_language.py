@@ -26,6 +26,7 @@ NOT_AS_VALUES = set("""items keys values pop update append clear extend insert r
     encode format""".split())
 NOT_SAID = """type typing typing_extensions enum Enum IntEnum StrEnum Flag IntFlag Generic Protocol ABC ABCMeta
     namedtuple NamedTuple TypedDict TYPE_CHECKING abstractmethod""".split()
+CHANGING = set("append clear extend insert pop remove reverse setdefault update".split())
 DUNDERS = ("__init__", "__eq__", "__repr__", "__str__", "__len__")
 
 
@@ -39,6 +40,18 @@ def bound_names(tree):
             yield node.name
         elif isinstance(node, ast.Attribute) and isinstance(node.ctx, ast.Store):
             yield node.attr
+
+
+def changed_texts(body):
+    """What is stored into or changed by a method, as it is written, anywhere in these statements."""
+    for statement in body:
+        for node in ast.walk(statement):
+            if isinstance(node, ast.Subscript) and isinstance(node.ctx, ast.Store):
+                yield ast.unparse(node.value)
+            elif isinstance(node, ast.Attribute) and node.attr in CHANGING:
+                yield ast.unparse(node.value)
+            elif isinstance(node, ast.AugAssign):
+                yield ast.unparse(node.target)
 
 
 class Language(unittest.TestCase):
@@ -98,6 +111,21 @@ class Language(unittest.TestCase):
         for node, where in self.nodes(ast.FunctionDef):
             told = node.args
             self.assertFalse(told.vararg or told.kwarg or told.kwonlyargs or told.posonlyargs, where)
+            self.assertFalse(node.returns or any(one.annotation for one in told.args), where)
+            self.assertTrue(all(isinstance(value, ast.Constant) for value in told.defaults), where)
+
+    def test_what_is_walked(self):
+        for node, where in self.nodes(ast.For):
+            self.assertNotIn(ast.unparse(node.iter), list(changed_texts(node.body)), where)
+        for path in FILES:
+            tree = ast.parse(path.read_text())
+            on_the_spot = {id(node.iter) for node in ast.walk(tree) if isinstance(node, (ast.For, ast.comprehension))}
+            for node in ast.walk(tree):
+                if isinstance(node, ast.Call) and isinstance(node.func, ast.Name):
+                    self.assertEqual(node.keywords, [], ast.unparse(node))
+                    self.assertNotIn(node.func.id, ("set", "frozenset"), ast.unparse(node))
+                    if node.func.id in ("range", "zip", "enumerate", "reversed"):
+                        self.assertIn(id(node), on_the_spot, ast.unparse(node))
 
     def test_names(self):
         for path in FILES:

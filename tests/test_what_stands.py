@@ -47,7 +47,8 @@ class Gainsaying(unittest.TestCase):
 
 class Barred(unittest.TestCase):
     def test_by_a_court_one_step_above(self):
-        self.assertEqual(behind(decide(0, 1, 1, [0, 2], [0]), decide(1, 2, 0, [0, 2], [2]), stands(1, 2), stands(1, FAR)),
+        self.assertEqual(behind(decide(0, 1, 1, [0, 2], [0]), decide(1, 2, 0, [0, 2], [2]),
+                                stands(1, 2), stands(1, FAR)),
                          [[0, 1], [1, 0], [0], [0]])
 
     def test_by_a_court_several_steps_above(self):
